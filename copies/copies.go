@@ -11,3 +11,26 @@ import (
 func Slots(s api.Slots) api.Slots {
 	return api.Slots{Gens: slices.Clone(s.Gens), Used: slices.Clone(s.Used), Free: slices.Clone(s.Free)}
 }
+
+// Tenant is a new one.
+func Tenant(t api.Tenant) api.Tenant {
+	t.Rules = slices.Clone(t.Rules)
+	t.Creds = slices.Clone(t.Creds)
+	return t
+}
+
+// Registry is a new one.
+func Registry(r api.Registry) api.Registry {
+	r.Slots = Slots(r.Slots)
+	r.L = each(r.L, Tenant)
+	return r
+}
+
+// each is a new list of what is made of each of an old one's parts.
+func each[T any](l []T, made func(T) T) []T {
+	out := make([]T, 0, len(l))
+	for _, x := range l {
+		out = append(out, made(x))
+	}
+	return out
+}
