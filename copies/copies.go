@@ -34,3 +34,15 @@ func each[T any](l []T, made func(T) T) []T {
 	}
 	return out
 }
+
+// Pool is a new one.
+func Pool(p api.Pool) api.Pool {
+	p.L = each(p.L, Snap)
+	return p
+}
+
+// Snap is a new one.
+func Snap(s api.Snap) api.Snap {
+	s.Items = slices.Clone(s.Items)
+	return s
+}
