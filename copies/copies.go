@@ -46,3 +46,9 @@ func Snap(s api.Snap) api.Snap {
 	s.Items = slices.Clone(s.Items)
 	return s
 }
+
+// Session is a new one.
+func Session(s api.Session) api.Session {
+	s.Open = slices.Clone(s.Open)
+	return s
+}
