@@ -52,3 +52,13 @@ func Session(s api.Session) api.Session {
 	s.Open = slices.Clone(s.Open)
 	return s
 }
+
+// Control is new.
+func Control(c api.Control) api.Control {
+	c.Operators = slices.Clone(c.Operators)
+	c.Registry = Registry(c.Registry)
+	c.Pool = Pool(c.Pool)
+	c.Jobs = slices.Clone(c.Jobs)
+	c.Done = slices.Clone(c.Done)
+	return c
+}
