@@ -135,7 +135,7 @@ var breaks = map[string]func(*api.Control){
 }
 
 func sample(t *testing.T) api.Control {
-	c := talk(t, made(t), []exchange{{0, "ann 1 create acme k 100", "ok 1 1 0 1 1 1"}, {0, "ann 2 list 1", "ok 2 2 1 end acme"}})
+	c := talk(t, made(t), []exchange{{0, "ann 1 create acme k 100", "ok 1 1 0 1 1 1"}, {0, "ann 2 list 1", "ok 2 2 1 end acme"}, {0, "ann 9 drain acme 0 5", "ok 9 3 0 1 2 3"}})
 	return call(t, call(t, c, 3, "x"), 1, "ann 3 list 3")
 }
 
@@ -216,6 +216,7 @@ func TestP19_1Parse(t *testing.T) {
 		"drain acme 2 30":             of(api.Command{Verb: api.Drain, Name: "acme", Want: 2, N: 30}),
 		"rotate acme 2 k 30 40":       of(api.Command{Verb: api.Rotate, Name: "acme", Want: 2, Key: "k", N: 30, M: 40}),
 		`acl acme 2 insert 3 "deny 10.0.0.0/8 22-23"`: of(api.Command{Verb: api.Acl, Name: "acme", Want: 2, At: 3, Rule: rule}),
+		"rotate acme 0 k 0 0":                         of(api.Command{Verb: api.Rotate, Name: "acme", Key: "k"}),
 		"acl acme 2 remove 0":                         of(api.Command{Verb: api.Acl, Name: "acme", Want: 2, At: -1}),
 		"acl acme 2 remove 5":                         of(api.Command{Verb: api.Acl, Name: "acme", Want: 2, At: -6}),
 		"acl acme 2 remove 1000000000000":             of(api.Command{Verb: api.Acl, Name: "acme", Want: 2, At: -last - 1}),

@@ -42,6 +42,11 @@ func Unless(well bool, no api.Errno) error {
 	return Fault{no}
 }
 
+// Between is the check that a number is from the least one to the greatest one.
+func Between(n int, least int, most int, no api.Errno) func() error {
+	return func() error { return Unless(n >= least && n <= most, no) }
+}
+
 // Within tells in which part an error was met, if there is one.
 func Within(part string, err error) error {
 	if err == nil {

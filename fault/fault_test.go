@@ -24,6 +24,14 @@ func TestNumbers(t *testing.T) {
 	}
 }
 
+func TestBetween(t *testing.T) {
+	for n, want := range map[int]api.Errno{2: api.ErrKey, 3: api.OK, 4: api.OK, 5: api.OK, 6: api.ErrKey} {
+		if e := fault.No(fault.Between(n, 3, 5, api.ErrKey)()); e != want {
+			t.Errorf("%d: %d", n, e)
+		}
+	}
+}
+
 func TestFirst(t *testing.T) {
 	made := 0
 	check := func(no api.Errno) func() error {

@@ -98,10 +98,5 @@ func (p *Proxy) cut(found ...key) {
 
 // forget lets all tunnels of a connection be gone.
 func (p *Proxy) forget(conn int) {
-	maps.DeleteFunc(p.lanes, func(k key, l lane) bool {
-		if k.conn == conn {
-			l.Stop()
-		}
-		return k.conn == conn
-	})
+	maps.DeleteFunc(p.lanes, func(k key, _ lane) bool { return k.conn == conn })
 }

@@ -732,10 +732,13 @@ func TestP20_3Room(t *testing.T) {
 	if p.Work(0) != api.ErrFull || !control.Same(before, p.Control()) || len(before.Jobs) != 1 || before.Jobs[0].Phase != api.Parsing {
 		t.Error("a step without room")
 	}
-	s, e := p.Hear(0, 1024-301)
+	s, e := p.Hear(0, 300-(1024-replied))
 	ok(t, e)
-	if e := p.Work(0); e != api.OK || len(s) != 1024-301 {
-		t.Error(e, len(s))
+	if e := p.Work(0); e != api.ErrFull || len(s) != replied-724 {
+		t.Error("room for 300 bytes does", e)
+	}
+	if s, e := p.Hear(0, 1); len(s) != 1 || e != api.OK || p.Work(0) != api.OK {
+		t.Error("room for 301 bytes does not")
 	}
 }
 

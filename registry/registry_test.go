@@ -242,7 +242,7 @@ func TestP15_2Commands(t *testing.T) {
 	}{
 		{api.Command{Verb: api.Suspend, Name: "act"}, 0, 3, api.Suspended, 0}, {api.Command{Verb: api.Suspend, Name: "sus"}, api.ErrState, 2, api.Suspended, 0}, {api.Command{Verb: api.Suspend, Name: "dra"}, 0, 3, api.Suspended, 0},
 		{api.Command{Verb: api.Resume, Name: "act"}, api.ErrState, 2, api.Active, 0}, {api.Command{Verb: api.Resume, Name: "sus"}, 0, 3, api.Active, 0}, {api.Command{Verb: api.Resume, Name: "dra"}, api.ErrState, 2, api.Draining, 60},
-		{api.Command{Verb: api.Drain, Name: "act", N: 30}, 0, 3, api.Draining, 50}, {api.Command{Verb: api.Drain, Name: "act", N: 0}, api.ErrArg, 2, api.Active, 0}, {api.Command{Verb: api.Drain, Name: "act", N: 1000000000}, 0, 3, api.Draining, 1000000020},
+		{api.Command{Verb: api.Drain, Name: "act", N: 30}, 0, 3, api.Draining, 50}, {api.Command{Verb: api.Drain, Name: "act", N: 1}, 0, 3, api.Draining, 21}, {api.Command{Verb: api.Drain, Name: "act", N: 0}, api.ErrArg, 2, api.Active, 0}, {api.Command{Verb: api.Drain, Name: "act", N: 1000000000}, 0, 3, api.Draining, 1000000020},
 		{api.Command{Verb: api.Drain, Name: "act", N: 1000000001}, api.ErrArg, 2, api.Active, 0}, {api.Command{Verb: api.Drain, Name: "act", N: -1}, api.ErrArg, 2, api.Active, 0}, {api.Command{Verb: api.Drain, Name: "act", N: math.MaxInt}, api.ErrArg, 2, api.Active, 0},
 		{api.Command{Verb: api.Drain, Name: "sus", N: 0}, api.ErrState, 2, api.Suspended, 0}, {api.Command{Verb: api.Drain, Name: "dra", N: 7}, api.ErrState, 2, api.Draining, 60},
 		{api.Command{Verb: api.Kill, Name: "dra", Want: 2}, 0, 2, api.Draining, 60}, {api.Command{Verb: api.Show, Name: "sus"}, 0, 2, api.Suspended, 0}, {api.Command{Verb: api.Kill, Name: "act", Want: 1}, api.ErrVersion, 2, api.Active, 0},

@@ -3,23 +3,15 @@ package registry
 import (
 	"wicketgate/acl"
 	"wicketgate/api"
+	"wicketgate/check"
 	"wicketgate/cred"
 	"wicketgate/slots"
 	"wicketgate/words"
 )
 
-func all(checks ...func() bool) bool {
-	for _, holds := range checks {
-		if !holds() {
-			return false
-		}
-	}
-	return true
-}
-
 func isName(s string) bool { return s != "" && len(s) <= api.MaxName && words.Right(s) }
 
-// book is a registry that is not known to be right; a check of it may be made just if those ahead of it hold.
+// book is a registry that is not known to be right.
 type book struct{ api.Registry }
 
 func (b book) hasSlots() bool { return slots.Right(b.Slots) }
@@ -42,7 +34,7 @@ func (b book) hasHandles() bool {
 func (b book) hasTenants() bool {
 	for _, t := range tenants(b.Registry) {
 		e := entry{t, b.Seq}
-		if !all(e.hasName, e.hasState, e.hasVersion, e.hasRules, e.hasCreds, e.hasDeadline) {
+		if !check.All(e.hasName, e.hasState, e.hasVersion, e.hasRules, e.hasCreds, e.hasDeadline) {
 			return false
 		}
 	}

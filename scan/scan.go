@@ -43,16 +43,6 @@ func (t *Text) Mark(mark string) bool {
 // End tells whether nothing is left.
 func (t *Text) End() bool { return t.Left == "" }
 
-// All makes some steps, up to the first one that does not go.
-func All(steps ...func() bool) bool {
-	for _, step := range steps {
-		if !step() {
-			return false
-		}
-	}
-	return true
-}
-
 // Number is that of a text that is nothing but its digits.
 func Number(s string, most int) (int, bool) {
 	t := Text{s}

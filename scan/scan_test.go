@@ -42,16 +42,3 @@ func TestText(t *testing.T) {
 		t.Error(x)
 	}
 }
-
-func TestAll(t *testing.T) {
-	made := 0
-	step := func(ok bool) func() bool {
-		return func() bool {
-			made++
-			return ok
-		}
-	}
-	if !scan.All() || !scan.All(step(true), step(true)) || scan.All(step(true), step(false), step(true)) || made != 4 {
-		t.Error(made)
-	}
-}

@@ -148,6 +148,17 @@ func TestP17_2Grant(t *testing.T) {
 	if e := x.Grant(0, 65536); e != api.OK {
 		t.Error("directions share their credit", e)
 	}
+	y := made(t, 4, paths[api.Up]...)
+	grant(t, y, 0, 2)
+	if y.Grant(0, -1) != api.ErrArg || y.Grant(0, 65536) != api.ErrCredit {
+		t.Error("a wrong grant")
+	}
+	if _, e := y.Feed(0, "abcd"); e != api.OK {
+		t.Error(e)
+	}
+	if n, e := y.Move(0, 9); n != 2 || e != api.OK {
+		t.Error("a wrong grant changes the credit", n, e)
+	}
 }
 
 // P17.2: in which states bytes are fed and moved.
